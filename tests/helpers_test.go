@@ -2,6 +2,7 @@ package tests
 
 import (
 	"math"
+	"testing"
 
 	"loop.example/lucaspairs/impl"
 )
@@ -39,9 +40,54 @@ func badPairs() []impl.Pair {
 	return pairs
 }
 
-// badPlaces has places below 0 and above MaxIndex.
-func badPlaces() []int {
-	return append(farNumbers(), -256, -21, -20, -2, -1, 21, 22, 256, 266)
+// outside has numbers below low and above high, from just beside them to very small and very large ones.
+func outside(low, high int) []int {
+	numbers := farNumbers()
+	for n := -300; n <= 300; n++ {
+		if n < low || n > high {
+			numbers = append(numbers, n)
+		}
+	}
+	return numbers
+}
+
+// upTo has the numbers from low up to high.
+func upTo(low, high int) []int {
+	var numbers []int
+	for n := low; n <= high; n++ {
+		numbers = append(numbers, n)
+	}
+	return numbers
+}
+
+// checkNothing asks what has one place, in 0..high, for places and pairs that are not valid, one by one and together.
+func checkNothing(t *testing.T, name string, high int, of func(impl.Pair, int) (int, bool)) {
+	t.Helper()
+	ask := func(p impl.Pair, places []int) {
+		for _, place := range places {
+			if n, ok := of(p, place); n != 0 || ok {
+				t.Errorf("%s(%v, %d) is %d, %v", name, p, place, n, ok)
+			}
+		}
+	}
+	for _, p := range allPairs() {
+		ask(p, outside(0, high))
+	}
+	for _, p := range badPairs() {
+		ask(p, append(farNumbers(), upTo(-2, high+2)...))
+	}
+}
+
+// checkTwoNothing asks what has two places for such of them as are not valid together with a pair.
+func checkTwoNothing(t *testing.T, name string, p impl.Pair, first, second []int, of func(impl.Pair, int, int) (int, bool)) {
+	t.Helper()
+	for _, a := range first {
+		for _, b := range second {
+			if n, ok := of(p, a, b); n != 0 || ok {
+				t.Errorf("%s(%v, %d, %d) is %d, %v", name, p, a, b, n, ok)
+			}
+		}
+	}
 }
 
 func power(base, exponent int) int {

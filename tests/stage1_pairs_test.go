@@ -134,7 +134,7 @@ func TestPromise2KnownRows(t *testing.T) {
 }
 
 func TestPromise2AnythingElseHasNoNumber(t *testing.T) {
-	checkNothing(t, "FirstAt", impl.FirstAt)
+	checkNothing(t, "FirstAt", impl.MaxIndex, impl.FirstAt)
 }
 
 func TestPromise3BothRowsBelongTogether(t *testing.T) {
@@ -182,26 +182,7 @@ func TestPromise3KnownRows(t *testing.T) {
 }
 
 func TestPromise3AnythingElseHasNoNumber(t *testing.T) {
-	checkNothing(t, "SecondAt", impl.SecondAt)
-}
-
-// checkNothing asks a row for places and pairs that are not valid, one by one and together.
-func checkNothing(t *testing.T, name string, at func(impl.Pair, int) (int, bool)) {
-	t.Helper()
-	for _, p := range allPairs() {
-		for _, place := range badPlaces() {
-			if n, ok := at(p, place); n != 0 || ok {
-				t.Errorf("%s(%v, %d) is %d, %v", name, p, place, n, ok)
-			}
-		}
-	}
-	for _, p := range badPairs() {
-		for _, place := range append(badPlaces(), 0, 1, 2, 10, 20) {
-			if n, ok := at(p, place); n != 0 || ok {
-				t.Errorf("%s(%v, %d) is %d, %v", name, p, place, n, ok)
-			}
-		}
-	}
+	checkNothing(t, "SecondAt", impl.MaxIndex, impl.SecondAt)
 }
 
 func TestPromise4WeightsLeave0Or1By4(t *testing.T) {
