@@ -20,7 +20,7 @@ func allPairs() []impl.Pair {
 	return pairs
 }
 
-// farNumbers lie outside every range of the document; some come near 0 again in 8, 16 or 32 bits, or when their sign is changed.
+// farNumbers lie outside every range of the document, but that 1 << 16 is a place far on; some come near 0 again in 8, 16 or 32 bits, or when their sign is changed.
 func farNumbers() []int {
 	return []int{
 		math.MinInt, math.MinInt + 1, math.MaxInt - 1, math.MaxInt,
@@ -42,8 +42,10 @@ func badPairs() []impl.Pair {
 
 // outside has numbers below low and above high, from just beside them to very small and very large ones.
 func outside(low, high int) []int {
-	numbers := farNumbers()
-	for n := -300; n <= 300; n++ {
+	asked := append(farNumbers(), upTo(-300, 300)...)
+	asked = append(asked, low-2, low-1, high+1, high+2, 2*high, 10*high)
+	var numbers []int
+	for _, n := range asked {
 		if n < low || n > high {
 			numbers = append(numbers, n)
 		}
