@@ -92,6 +92,38 @@ func checkTwoNothing(t *testing.T, name string, p impl.Pair, first, second []int
 	}
 }
 
+// rankedAs asks what is told of numbers with a rank for one that has a rank.
+func rankedAs(t *testing.T, name string, p impl.Pair, by int, of func(impl.Pair, int) (int, bool)) int {
+	t.Helper()
+	n, ok := of(p, by)
+	if !ok {
+		t.Fatalf("%s(%v, %d) is not told", name, p, by)
+	}
+	return n
+}
+
+// checkNotRanked holds that what is told of numbers with a rank is not told of such numbers.
+func checkNotRanked(t *testing.T, name string, p impl.Pair, numbers []int, of func(impl.Pair, int) (int, bool)) {
+	t.Helper()
+	for _, by := range numbers {
+		if n, ok := of(p, by); n != -1 || ok {
+			t.Errorf("%s(%v, %d) is %d, %v", name, p, by, n, ok)
+		}
+	}
+}
+
+// checkNothingRanked asks what is told of numbers with a rank for numbers and pairs that are not valid, one by one and together.
+func checkNothingRanked(t *testing.T, name string, of func(impl.Pair, int) (int, bool)) {
+	t.Helper()
+	bad := append(outside(1, impl.MaxRanked), -impl.MaxRanked, -7, 401, 403, 409, 997, impl.MaxBy)
+	for _, p := range allPairs() {
+		checkNotRanked(t, name, p, bad, of)
+	}
+	for _, p := range badPairs() {
+		checkNotRanked(t, name, p, append(farNumbers(), -1, 0, 1, 2, 7, impl.MaxRanked, impl.MaxRanked+1), of)
+	}
+}
+
 func power(base, exponent int) int {
 	product := 1
 	for range exponent {

@@ -51,20 +51,12 @@ func allRanks() map[impl.Pair][]int {
 
 func rankOf(t *testing.T, p impl.Pair, by int) int {
 	t.Helper()
-	rank, ok := impl.RankOf(p, by)
-	if !ok {
-		t.Fatalf("RankOf(%v, %d) is not told", p, by)
-	}
-	return rank
+	return rankedAs(t, "RankOf", p, by, impl.RankOf)
 }
 
 func checkNoRank(t *testing.T, p impl.Pair, numbers []int) {
 	t.Helper()
-	for _, by := range numbers {
-		if rank, ok := impl.RankOf(p, by); rank != -1 || ok {
-			t.Errorf("RankOf(%v, %d) is %d, %v", p, by, rank, ok)
-		}
-	}
+	checkNotRanked(t, "RankOf", p, numbers, impl.RankOf)
 }
 
 func checkDivides(t *testing.T, p impl.Pair, by, place int, want bool) {
@@ -224,13 +216,7 @@ func TestPromise19WhatSharesWithQHasNoRank(t *testing.T) {
 }
 
 func TestPromise19AnythingElseHasNoRank(t *testing.T) {
-	bad := append(outside(1, impl.MaxRanked), -impl.MaxRanked, -7, 401, 403, 409, 997, impl.MaxBy)
-	for _, p := range allPairs() {
-		checkNoRank(t, p, bad)
-	}
-	for _, p := range badPairs() {
-		checkNoRank(t, p, append(farNumbers(), -1, 0, 1, 2, 7, impl.MaxRanked, impl.MaxRanked+1))
-	}
+	checkNothingRanked(t, "RankOf", impl.RankOf)
 }
 
 func TestPromise20NumbersDivideAtMultiplesOfTheirRank(t *testing.T) {
